@@ -1,0 +1,1 @@
+"""Matching hides into lots."""

@@ -1,0 +1,102 @@
+"""The operations. Each takes the numbers of its call and gives back the numbers of its answer."""
+
+from matchedhides.inventory import Hide, Inventory
+from matchedhides.limits import MOST_HIDES, check_limits, check_measures
+from matchedhides.lotting import hides_match, lots_in_order, make_lot, numbers_in_order
+from matchedhides.refusals import OutsideLimits, TooManyHides
+
+
+def create(request, numbers):
+    """Begin an inventory without hides, in place of an existing one."""
+    check_limits(numbers[0], numbers[1])
+    request.inventory = Inventory(numbers[0], numbers[1])
+    return [0]
+
+
+def add_hide(inventory, numbers):
+    """Add a hide and tell its number."""
+    check_measures(numbers[0], numbers[1], numbers[2])
+    number = len(inventory.hides)
+    if number >= MOST_HIDES:
+        raise TooManyHides()
+    inventory.hides.append(Hide(numbers[0], numbers[1], numbers[2]))
+    return [number]
+
+
+def remove_hide(inventory, numbers):
+    """Remove a hide and tell how many remain."""
+    inventory.check_number(numbers[0])
+    inventory.hides.pop(numbers[0])
+    return [len(inventory.hides)]
+
+
+def get_hide(inventory, numbers):
+    """Tell the kind, the thickness and the area of a hide."""
+    hide = inventory.hide_at(numbers[0])
+    return [hide.kind, hide.thickness, hide.area]
+
+
+def set_limits(inventory, numbers):
+    """Set the limits of a lot and tell the previous ones."""
+    check_limits(numbers[0], numbers[1])
+    previous = [inventory.tolerance, inventory.lot_size]
+    inventory.tolerance = numbers[0]
+    inventory.lot_size = numbers[1]
+    return [0] + previous
+
+
+def thin_hide(inventory, numbers):
+    """Make a hide thinner and tell its previous thickness."""
+    hide = inventory.hide_at(numbers[0])
+    previous = hide.thickness
+    if numbers[1] < 1 or numbers[1] >= previous:
+        raise OutsideLimits()
+    hide.thickness = numbers[1]
+    return [previous]
+
+
+def hide_order(inventory, numbers):
+    """Tell how many hides there are, and the hide order."""
+    ordered = numbers_in_order(inventory.hides)
+    return [len(ordered)] + ordered
+
+
+def are_compatible(inventory, numbers):
+    """Tell whether two hides are compatible."""
+    one = inventory.hide_at(numbers[0])
+    other = inventory.hide_at(numbers[1])
+    return [1 if hides_match(one, other, inventory.tolerance) else 0]
+
+
+def is_lot(inventory, numbers):
+    """Tell whether the hides form a lot."""
+    hides = inventory.different_hides(numbers)
+    return [1 if make_lot(hides, inventory.tolerance, inventory.lot_size) else 0]
+
+
+def fewest_lots(inventory, numbers):
+    """Tell the number of greedy lots, which are the fewest."""
+    return [len(lots_in_order(inventory.hides, inventory.tolerance, inventory.lot_size))]
+
+
+OPERATIONS = {
+    1: add_hide,
+    2: remove_hide,
+    3: get_hide,
+    4: set_limits,
+    5: thin_hide,
+    6: hide_order,
+    7: are_compatible,
+    8: is_lot,
+    9: fewest_lots,
+}
+
+
+def result_of(request, operation, numbers):
+    """Carry out the operation with this number, or refuse it."""
+    if operation == 0:
+        return create(request, numbers)
+    # That there is an inventory is asked here, ahead of whatever the operation itself asks.
+    inventory = request.existing_inventory()
+    carry_out = OPERATIONS[operation]
+    return carry_out(inventory, numbers)
