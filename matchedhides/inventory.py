@@ -12,6 +12,16 @@ class Hide:
         self.area = area
 
 
+def hides_at(hides, numbers):
+    """The hides with these numbers."""
+    return [hides[number] for number in numbers]
+
+
+def area_of(hides):
+    """The total area of the hides."""
+    return sum([hide.area for hide in hides])
+
+
 class Inventory:
     """The hides, in the order of their numbers, and the limits of a lot."""
 
@@ -38,7 +48,7 @@ class Inventory:
             # In a list, a hide that doesn't exist is an argument outside its limits.
             if number >= len(self.hides):
                 raise OutsideLimits()
-        return [self.hides[number] for number in numbers]
+        return hides_at(self.hides, numbers)
 
 
 class Request:

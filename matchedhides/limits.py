@@ -18,10 +18,15 @@ def check_limits(tolerance, lot_size):
         raise OutsideLimits()
 
 
-def check_measures(kind, thickness, area):
-    """Refuse a kind, a thickness or an area that a hide can't have."""
+def check_kind(kind):
+    """Refuse a kind that a hide can't have."""
     if kind > GREATEST_KIND:
         raise OutsideLimits()
+
+
+def check_measures(kind, thickness, area):
+    """Refuse a kind, a thickness or an area that a hide can't have."""
+    check_kind(kind)
     if thickness < 1 or thickness > GREATEST_THICKNESS:
         raise OutsideLimits()
     if area < 1 or area > GREATEST_AREA:

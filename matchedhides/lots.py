@@ -2,7 +2,7 @@
 
 from matchedhides.inventory import Request
 from matchedhides.operations import result_of
-from matchedhides.refusals import NoInventory, NoSuchHide, OutsideLimits, TooManyHides
+from matchedhides.refusals import NoInventory, NoSuchHide, NothingFound, OutsideLimits, TooManyHides
 
 
 def answer_of(request, operation, numbers):
@@ -17,6 +17,8 @@ def answer_of(request, operation, numbers):
         return [-22]
     except TooManyHides:
         return [-28]
+    except NothingFound:
+        return [-33]
 
 
 def answers(calls):

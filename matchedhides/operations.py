@@ -1,9 +1,11 @@
 """The operations. Each takes the numbers of its call and gives back the numbers of its answer."""
 
-from matchedhides.inventory import Hide, Inventory
-from matchedhides.limits import MOST_HIDES, check_limits, check_measures
-from matchedhides.lotting import hides_match, lots_in_order, make_lot, numbers_in_order
-from matchedhides.refusals import OutsideLimits, TooManyHides
+from matchedhides.inventory import Hide, Inventory, area_of, hides_at
+from matchedhides.limits import GREATEST_TOLERANCE, MOST_HIDES, check_kind, check_limits, check_measures
+from matchedhides.lotting import hides_match, incompatible_in_order, lots_in_order, make_lot, numbers_in_order
+from matchedhides.pairing import difference_of, paired_in_order
+from matchedhides.refusals import NothingFound, OutsideLimits, TooManyHides
+from matchedhides.runs import largest_of_lots
 
 
 def create(request, numbers):
@@ -74,9 +76,77 @@ def is_lot(inventory, numbers):
     return [1 if make_lot(hides, inventory.tolerance, inventory.lot_size) else 0]
 
 
+def lots_of(inventory, hides):
+    """The greedy lots of these hides within the limits of the inventory."""
+    return lots_in_order(hides, inventory.tolerance, inventory.lot_size)
+
+
 def fewest_lots(inventory, numbers):
     """Tell the number of greedy lots, which are the fewest."""
-    return [len(lots_in_order(inventory.hides, inventory.tolerance, inventory.lot_size))]
+    return [len(lots_of(inventory, inventory.hides))]
+
+
+def greedy_lots(inventory, numbers):
+    """Tell the greedy lots, each behind its number of hides."""
+    lots = lots_of(inventory, inventory.hides)
+    told = [len(lots)]
+    for lot in lots:
+        told.append(len(lot))
+        told.extend(lot)
+    return told
+
+
+def incompatible_hides(inventory, numbers):
+    """Tell the incompatible hides, as many as there are lots at least."""
+    taken = incompatible_in_order(inventory.hides, inventory.tolerance)
+    return [len(taken)] + taken
+
+
+def largest_lot(inventory, numbers):
+    """Tell the lot with the greatest area."""
+    if not inventory.hides:
+        raise NothingFound()
+    lot = largest_of_lots(inventory.hides, inventory.tolerance, inventory.lot_size)
+    return [area_of(hides_at(inventory.hides, lot)), len(lot)] + lot
+
+
+def total_area(inventory, numbers):
+    """Tell the sum of the areas of the hides."""
+    return [area_of(inventory.different_hides(numbers))]
+
+
+def best_pairs(inventory, numbers):
+    """Tell the best pairs of a kind and the hide that is left over."""
+    check_kind(numbers[0])
+    paired = paired_in_order(inventory.hides, numbers[0])
+    return [difference_of(inventory.hides, paired), len(paired) // 2] + paired
+
+
+def least_tolerance(inventory, numbers):
+    """Tell the smallest tolerance with which there would be at most so many lots."""
+    for tolerance in range(GREATEST_TOLERANCE + 1):
+        if len(lots_in_order(inventory.hides, tolerance, inventory.lot_size)) <= numbers[0]:
+            return [tolerance]
+    raise NothingFound()
+
+
+def lots_without_hide(inventory, numbers):
+    """Tell how many lots there would be without a hide."""
+    inventory.check_number(numbers[0])
+    others = inventory.hides[:numbers[0]] + inventory.hides[numbers[0] + 1:]
+    return [len(lots_of(inventory, others))]
+
+
+def lots_with_hide(inventory, numbers):
+    """Tell how many lots there would be with an additional hide, for which there need be no room."""
+    check_measures(numbers[0], numbers[1], numbers[2])
+    hides = inventory.hides + [Hide(numbers[0], numbers[1], numbers[2])]
+    return [len(lots_of(inventory, hides))]
+
+
+def status(inventory, numbers):
+    """Tell the number of hides, the limits and the area of all hides."""
+    return [len(inventory.hides), inventory.tolerance, inventory.lot_size, area_of(inventory.hides)]
 
 
 OPERATIONS = {
@@ -89,6 +159,15 @@ OPERATIONS = {
     7: are_compatible,
     8: is_lot,
     9: fewest_lots,
+    10: greedy_lots,
+    11: incompatible_hides,
+    12: largest_lot,
+    13: total_area,
+    14: best_pairs,
+    15: least_tolerance,
+    16: lots_without_hide,
+    17: lots_with_hide,
+    18: status,
 }
 
 

@@ -15,3 +15,7 @@ class OutsideLimits(Exception):
 
 class TooManyHides(Exception):
     """The inventory has no room for another hide."""
+
+
+class NothingFound(Exception):
+    """There are no hides, or no tolerance is sufficient."""

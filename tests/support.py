@@ -15,6 +15,15 @@ CALLS = {
     "are_compatible": (7, 2),
     "is_lot": (8, None),
     "fewest_lots": (9, 0),
+    "greedy_lots": (10, 0),
+    "incompatible_hides": (11, 0),
+    "largest_lot": (12, 0),
+    "total_area": (13, None),
+    "best_pairs": (14, 1),
+    "least_tolerance": (15, 1),
+    "lots_without_hide": (16, 1),
+    "lots_with_hide": (17, 3),
+    "status": (18, 0),
 }
 
 GREATEST = 4294967295
@@ -61,10 +70,15 @@ def adding(hides):
     return [("add_hide", *hide) for hide in hides]
 
 
+def begun(limits, hides):
+    """The calls that create an inventory with these limits and hides."""
+    return [("create", *limits), *adding(hides)]
+
+
 def snapshot(hide_count):
-    """Calls that tell the whole state; they leave the limits of `create(5, 3)` behind."""
+    """Calls that tell the whole state."""
     calls = [("get_hide", hide) for hide in range(hide_count + 1)]
-    return [*calls, ("hide_order",), ("fewest_lots",), ("set_limits", 5, 3), ("hide_order",)]
+    return [*calls, ("hide_order",), ("greedy_lots",), ("status",)]
 
 
 class RequestCase(unittest.TestCase):
@@ -80,10 +94,18 @@ class RequestCase(unittest.TestCase):
         given = ask(*begin, *[call for call, _ in steps])
         self.assertEqual(given[len(begin):], [answer for _, answer in steps])
 
-    def check_refused(self, begin, hide_count, call, code):
-        """The call answers the code alone, and the state stands as it was."""
+    def check_kept(self, begin, hide_count, call, answer):
+        """The call answers so, and the state stands as it was."""
         told = snapshot(hide_count)
         without = ask(*begin, *told)[len(begin):]
         given = ask(*begin, call, *told)[len(begin):]
-        self.assertEqual(given[0], [code])
+        self.assertEqual(given[0], answer)
         self.assertEqual(given[1:], without)
+
+    def check_refused(self, begin, hide_count, call, code):
+        """The call answers the code alone, and the state stands as it was."""
+        self.check_kept(begin, hide_count, call, [code])
+
+    def check_asked(self, limits, hides, call, answer):
+        """With these limits and hides the call answers so, and the state stands as it was."""
+        self.check_kept(begun(limits, hides), len(hides), call, answer)

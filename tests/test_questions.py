@@ -3,30 +3,8 @@
 import itertools
 import unittest
 
+from searches import fewest_by_search, ways_to_share
 from support import GREATEST, RequestCase, adding, ask
-
-
-def ways_to_share(hides):
-    """All ways to share the hides out into parts that aren't empty."""
-    if not hides:
-        yield []
-        return
-    for ways in ways_to_share(hides[1:]):
-        yield [[hides[0]], *ways]
-        for place, part in enumerate(ways):
-            yield [*ways[:place], [hides[0], *part], *ways[place + 1:]]
-
-
-def is_lot(part, tolerance, lot_size):
-    """Whether the hides form a lot, from the greatest difference alone."""
-    thicknesses = [thickness for _, thickness, _ in part]
-    one_kind = len({kind for kind, _, _ in part}) == 1
-    return len(part) <= lot_size and one_kind and max(thicknesses) - min(thicknesses) <= tolerance
-
-
-def fewest_by_search(ways, tolerance, lot_size):
-    """The fewest lots, from all ways to share the hides out."""
-    return min(len(way) for way in ways if all(is_lot(part, tolerance, lot_size) for part in way))
 
 
 class HideOrderTest(RequestCase):
